@@ -1,0 +1,60 @@
+package nat
+
+import "slices"
+
+// over divides by a d that is not 0, as on paper, limb by limb; rest is what is left.
+func (n number) over(d number) (quotient number, rest number) {
+	if n.compare(d) < 0 {
+		return nil, slices.Clone(n)
+	}
+	if len(d) == 1 {
+		quotient, left := n.overLimb(d[0])
+		return quotient, number{left}.trimmed()
+	}
+	// With a divisor whose highest limb is half the base or more a guess is hardly ever wrong.
+	scale := base / (d[len(d)-1] + 1)
+	rest = n.scaled(scale)
+	d = d.scaled(scale).trimmed()
+	quotient = make(number, len(n)-len(d)+1)
+	for i := len(quotient) - 1; i >= 0; i-- {
+		part := rest[i : i+len(d)+1]
+		quotient[i] = part.guess(d)
+		if part.put(d, -quotient[i]) < 0 {
+			part.put(d, 1)
+			quotient[i]--
+		}
+	}
+	rest, _ = rest.trimmed().overLimb(scale)
+	return quotient.trimmed(), rest
+}
+
+// guess is how many times d is in n, or one more; n is below d times base, and one limb longer than d.
+func (n number) guess(d number) int64 {
+	top := len(d)
+	first, second := d[top-1], d[top-2]
+	two := n[top]*base + n[top-1]
+	q, left := two/first, two%first
+	for q*second > left*base+n[top-2] {
+		q--
+		left += first
+	}
+	return q
+}
+
+// overLimb divides by a single limb that is not 0.
+func (n number) overLimb(d int64) (quotient number, rest int64) {
+	quotient = make(number, len(n))
+	for i := len(n) - 1; i >= 0; i-- {
+		rest = rest*base + n[i]
+		quotient[i] = rest / d
+		rest %= d
+	}
+	return quotient.trimmed(), rest
+}
+
+// scaled is n times a limb, with one limb more than n has, be it 0.
+func (n number) scaled(by int64) number {
+	product := make(number, len(n)+1)
+	product.put(n, by)
+	return product
+}
