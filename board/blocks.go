@@ -6,6 +6,7 @@ import (
 
 	"hustings/api"
 	"hustings/fold"
+	"hustings/kit"
 )
 
 // digestSize is how many bytes a digest has.
@@ -105,14 +106,9 @@ func (p parts) size() int {
 
 // head is that of these entries.
 func (p parts) head() string {
-	said := []string{four(p.size())}
+	said := []string{kit.Four(p.size())}
 	for _, b := range p {
 		said = append(said, b.digest)
 	}
 	return fold.Tag("head", said)
-}
-
-// four is a number as four bytes, the highest first, modulo 2^32.
-func four(n int) string {
-	return string([]byte{byte(n >> 24), byte(n >> 16), byte(n >> 8), byte(n)})
 }

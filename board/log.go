@@ -4,6 +4,7 @@ import (
 	"strings"
 
 	"hustings/api"
+	"hustings/kit"
 )
 
 // How a ledger lies on a disk: sector 0 says how many bytes there are (eight bytes, then zeros); from sector 1 on all
@@ -109,7 +110,7 @@ func (l *log) entry(at int) (string, api.Errno) {
 func (l *log) lay(entry string) bool {
 	used := l.used + needs(entry)
 	// The entry is safe ahead of its being counted: the count may be kept where the rest is lost.
-	ok := l.layBytes(four(len(entry))+entry) && l.sync() && l.write(0, eight(used)) && l.sync()
+	ok := l.layBytes(kit.Four(len(entry))+entry) && l.sync() && l.write(0, eight(used)) && l.sync()
 	if ok {
 		l.used = used
 	}
@@ -138,4 +139,4 @@ func number(b string) int {
 	return n
 }
 
-func eight(n int) string { return four(n>>32) + four(n) }
+func eight(n int) string { return kit.Four(n>>32) + kit.Four(n) }

@@ -4,6 +4,7 @@ import (
 	"hustings/api"
 	"hustings/fold"
 	"hustings/group"
+	"hustings/kit"
 	"hustings/sigma"
 )
 
@@ -41,17 +42,12 @@ func deedOf(do int) (deed, bool) {
 
 // misfits tells whether a change is not of the form that its deed asks for.
 func (d deed) misfits(c api.Change) bool {
-	return !isWord(c.Id) || !d.places && c.Precinct != 0 || !d.keys && c.Key != ""
+	return !kit.Word(c.Id) || !d.places && c.Precinct != 0 || !d.keys && c.Key != ""
 }
 
 // changeText is what is signed of a change.
 func changeText(digest string, number int, c api.Change) string {
-	return fold.Tag("change", []string{digest, four(number), four(c.Do), c.Id, four(c.Precinct), c.Key})
-}
-
-// four is a number as four bytes, the highest first, modulo 2^32.
-func four(n int) string {
-	return string([]byte{byte(n >> 24), byte(n >> 16), byte(n >> 8), byte(n)})
+	return fold.Tag("change", []string{digest, kit.Four(number), kit.Four(c.Do), c.Id, kit.Four(c.Precinct), c.Key})
 }
 
 // wrong tells what is wrong with a change, whoever stands on the roll.

@@ -5,6 +5,7 @@ import (
 
 	"hustings/api"
 	"hustings/group"
+	"hustings/kit"
 )
 
 // How many there may be in a manifest.
@@ -16,24 +17,10 @@ const (
 	precinctsMost = 64
 	trusteesMost  = 8
 	mixesMost     = 8
-	wordMost      = 32
 	lotsMost      = 64
 )
 
 func within(n, least, most int) bool { return least <= n && n <= most }
-
-// isWord tells whether a text is a word.
-func isWord(s string) bool { return len(s) <= wordMost && !noWord(s) }
-
-// noWord tells whether a text is no word, however long it is.
-func noWord(s string) bool {
-	for i := range len(s) {
-		if s[i] < 33 || s[i] > 126 {
-			return true
-		}
-	}
-	return s == ""
-}
 
 func noKind(m api.Manifest) bool {
 	_, _, e := group.Sizes(m.Kind)
@@ -54,11 +41,11 @@ func tooFew(m api.Manifest) bool {
 }
 
 func tooLong(m api.Manifest) bool {
-	return len(m.Lots) > lotsMost || slices.ContainsFunc(words(m), func(s string) bool { return len(s) > wordMost })
+	return len(m.Lots) > lotsMost || slices.ContainsFunc(words(m), func(s string) bool { return len(s) > kit.WordMost })
 }
 
 func misshapen(m api.Manifest) bool {
-	return slices.ContainsFunc(words(m), noWord) ||
+	return slices.ContainsFunc(words(m), func(s string) bool { return !kit.Signs(s) }) ||
 		slices.ContainsFunc(m.Styles, func(s api.Style) bool { return !rising(s.Contests) })
 }
 

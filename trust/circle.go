@@ -5,6 +5,7 @@ import (
 
 	"hustings/api"
 	"hustings/fold"
+	"hustings/kit"
 	"hustings/sigma"
 )
 
@@ -33,7 +34,7 @@ func (c circle) has(trustee int) bool { return trustee >= 1 && trustee <= c.of }
 func (c circle) coefficients(seed string) []string {
 	out := make([]string, c.need)
 	for k := range out {
-		out[k] = c.chance(seed, "coefficient", k)
+		out[k] = kit.Chance(c.kind, seed, "coefficient", k)
 	}
 	return out
 }
@@ -59,7 +60,7 @@ func (c circle) rightOffer(p api.Post) bool {
 		sigma.Verify(c.kind, offerLabel(p.From), c.offerClaims(p.Commits), p.Proof)
 }
 
-func offerLabel(from int) string { return fold.Tag("offer", []string{four(from)}) }
+func offerLabel(from int) string { return fold.Tag("offer", []string{kit.Four(from)}) }
 
 func (c circle) offerClaims(commits []string) []api.Claim {
 	return []api.Claim{{Bases: []string{c.base()}, Images: []string{commits[0]}}}

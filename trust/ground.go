@@ -2,7 +2,6 @@ package trust
 
 import (
 	"hustings/api"
-	"hustings/fold"
 	"hustings/group"
 )
 
@@ -63,18 +62,3 @@ func (g ground) powers(elems, scalars []string) string {
 func (g ground) noScalar(s string) bool { return !group.Scalar(g.kind, s) }
 
 func (g ground) noElem(s string) bool { return !group.Member(g.kind, s) }
-
-// chanceBytes are so many more than a scalar has that none is likelier than another one.
-const chanceBytes = 64
-
-// chance is a scalar that comes out of a seed.
-func (g ground) chance(seed, label string, i int) string {
-	b, _ := fold.Stream(fold.Tag(label, []string{seed, four(i)}), "chance", chanceBytes)
-	n, _ := group.Reduce(g.kind, b)
-	return n
-}
-
-// four is a number as four bytes, the highest first, modulo 2^32.
-func four(n int) string {
-	return string([]byte{byte(n >> 24), byte(n >> 16), byte(n >> 8), byte(n)})
-}
