@@ -2,61 +2,39 @@ package roll
 
 import (
 	"hustings/api"
-	"hustings/wire"
+	"hustings/node"
 )
-
-// layManifest is a manifest that nothing is wrong with, as a node.
-func layManifest(m api.Manifest) api.Node {
-	return list(
-		text(manifestLeaf),
-		number(m.Kind),
-		text(m.Name),
-		layAll(m.Contests, layContest),
-		layAll(m.Styles, layStyle),
-		layAll(m.Precincts, layPrecinct),
-		layAll(m.Trustees, text),
-		number(m.Need),
-		number(m.Mixes),
-		text(m.Registrar),
-		text(m.Clerk),
-		truth(m.Again),
-		text(m.Lots),
-	)
-}
 
 // manifestLeaf is what a manifest begins with.
 const manifestLeaf = "manifest"
 
-func layContest(c api.Contest) api.Node {
-	return list(text(c.Name), layAll(c.Options, text), number(c.Rule), number(c.Seats), number(c.Most))
+func layManifest(l *node.Layer, m api.Manifest) api.Node {
+	return l.List(
+		l.Text(manifestLeaf),
+		l.Number(m.Kind),
+		l.Text(m.Name),
+		node.LayAll(l, m.Contests, layContest),
+		node.LayAll(l, m.Styles, layStyle),
+		node.LayAll(l, m.Precincts, layPrecinct),
+		node.LayAll(l, m.Trustees, (*node.Layer).Text),
+		l.Number(m.Need),
+		l.Number(m.Mixes),
+		l.Text(m.Registrar),
+		l.Text(m.Clerk),
+		l.Truth(m.Again),
+		l.Text(m.Lots),
+	)
 }
 
-func layStyle(s api.Style) api.Node { return list(text(s.Name), layAll(s.Contests, number)) }
-
-func layPrecinct(p api.Precinct) api.Node { return list(text(p.Name), number(p.Style)) }
-
-// layAll is a list of what is laid for each entry.
-func layAll[T any](l []T, lay func(T) api.Node) api.Node {
-	nodes := make([]api.Node, len(l))
-	for i, x := range l {
-		nodes[i] = lay(x)
-	}
-	return list(nodes...)
+func layContest(l *node.Layer, c api.Contest) api.Node {
+	options := node.LayAll(l, c.Options, (*node.Layer).Text)
+	return l.List(l.Text(c.Name), options, l.Number(c.Rule), l.Number(c.Seats), l.Number(c.Most))
 }
 
-func list(nodes ...api.Node) api.Node { return api.Node{List: nodes} }
-
-func text(s string) api.Node { return api.Node{Leaf: true, Text: s} }
-
-// number is one that was looked at: so nothing goes wrong with it any more.
-func number(n int) api.Node {
-	s, _ := wire.Number(n)
-	return text(s)
+func layStyle(l *node.Layer, s api.Style) api.Node {
+	return l.List(l.Text(s.Name), node.LayAll(l, s.Contests, (*node.Layer).Number))
 }
 
-func truth(b bool) api.Node {
-	if b {
-		return number(1)
-	}
-	return number(0)
+func layPrecinct(l *node.Layer, p api.Precinct) api.Node {
+	return l.List(l.Text(p.Name), l.Number(p.Style))
 }
