@@ -1,6 +1,9 @@
 package nat
 
-import "hustings/api"
+import (
+	"hustings/api"
+	"hustings/long"
+)
 
 // withTwo reads two things that are handed in, and goes on with both if neither is wrong:
 // of every call the first one that is wrong tells the error, ahead of all else.
@@ -18,21 +21,21 @@ func withTwo[T, V, A any](read func(T) (V, api.Errno), first T, second T, then f
 }
 
 // readNumber is the number that a text is.
-func readNumber(text string) (number, api.Errno) {
+func readNumber(text string) (long.Number, api.Errno) {
 	if e := wrong(text); e != api.OK {
 		return nil, e
 	}
-	return numberOf(text), api.OK
+	return long.Of(text), api.OK
 }
 
 // readFraction is the fraction that a Frac is.
-func readFraction(x api.Frac) (fraction, api.Errno) {
+func readFraction(x api.Frac) (long.Fraction, api.Errno) {
 	if e := wrong(x.Num, x.Den); e != api.OK {
-		return fraction{}, e
+		return long.Fraction{}, e
 	}
-	f := fraction{numberOf(x.Num), numberOf(x.Den)}
-	if f.den.isZero() || !f.num.gcd(f.den).isOne() {
-		return fraction{}, api.ErrForm
+	f := long.Fraction{Num: long.Of(x.Num), Den: long.Of(x.Den)}
+	if f.Den.IsZero() || !f.Num.Gcd(f.Den).IsOne() {
+		return long.Fraction{}, api.ErrForm
 	}
 	return f, api.OK
 }

@@ -1,21 +1,21 @@
-package nat
+package long
 
 import "slices"
 
-// over divides by a d that is not 0, as on paper, limb by limb; rest is what is left.
-func (n number) over(d number) (quotient number, rest number) {
-	if n.compare(d) < 0 {
+// Over divides by a d that is not 0, as on paper, limb by limb; rest is what is left.
+func (n Number) Over(d Number) (quotient Number, rest Number) {
+	if n.Compare(d) < 0 {
 		return nil, slices.Clone(n)
 	}
 	if len(d) == 1 {
 		quotient, left := n.overLimb(d[0])
-		return quotient, number{left}.trimmed()
+		return quotient, Number{left}.trimmed()
 	}
 	// With a divisor whose highest limb is half the base or more a guess is hardly ever wrong.
 	scale := base / (d[len(d)-1] + 1)
 	rest = n.scaled(scale)
 	d = d.scaled(scale).trimmed()
-	quotient = make(number, len(n)-len(d)+1)
+	quotient = make(Number, len(n)-len(d)+1)
 	for i := len(quotient) - 1; i >= 0; i-- {
 		part := rest[i : i+len(d)+1]
 		quotient[i] = part.guess(d)
@@ -29,7 +29,7 @@ func (n number) over(d number) (quotient number, rest number) {
 }
 
 // guess is how many times d is in n, or one more; n is below d times base, and one limb longer than d.
-func (n number) guess(d number) int64 {
+func (n Number) guess(d Number) int64 {
 	top := len(d)
 	first, second := d[top-1], d[top-2]
 	two := n[top]*base + n[top-1]
@@ -42,8 +42,8 @@ func (n number) guess(d number) int64 {
 }
 
 // overLimb divides by a single limb that is not 0.
-func (n number) overLimb(d int64) (quotient number, rest int64) {
-	quotient = make(number, len(n))
+func (n Number) overLimb(d int64) (quotient Number, rest int64) {
+	quotient = make(Number, len(n))
 	for i := len(n) - 1; i >= 0; i-- {
 		rest = rest*base + n[i]
 		quotient[i] = rest / d
@@ -53,8 +53,8 @@ func (n number) overLimb(d int64) (quotient number, rest int64) {
 }
 
 // scaled is n times a limb, with one limb more than n has, be it 0.
-func (n number) scaled(by int64) number {
-	product := make(number, len(n)+1)
+func (n Number) scaled(by int64) Number {
+	product := make(Number, len(n)+1)
 	product.put(n, by)
 	return product
 }

@@ -1,39 +1,39 @@
-package nat
+package long
 
-// gcd is the greatest number that divides both.
+// Gcd is the greatest number that divides both.
 // It goes Euclid's way, many steps at once while the numbers are long (Lehmer's way): their first digits
 // tell for certain what the next steps are, and the long numbers are gone through but once for all of these.
-func (n number) gcd(o number) number {
-	if n.compare(o) < 0 {
+func (n Number) Gcd(o Number) Number {
+	if n.Compare(o) < 0 {
 		n, o = o, n
 	}
 	for len(o) > 2 {
 		high, low := sureSteps(n, o)
 		if high.y == 0 { // no step was sure
-			_, rest := n.over(o)
+			_, rest := n.Over(o)
 			n, o = o, rest
 			continue
 		}
 		n, o = high.of(n, o), low.of(n, o)
 	}
-	if o.isZero() {
+	if o.IsZero() {
 		return n
 	}
-	_, rest := n.over(o)
+	_, rest := n.Over(o)
 	return gcdOfShort(o, rest)
 }
 
 // gcdOfShort is the same of numbers of at most two limbs.
-func gcdOfShort(n number, o number) number {
+func gcdOfShort(n Number, o Number) Number {
 	a, b := n.short(), o.short()
 	for b != 0 {
 		a, b = b, a%b
 	}
-	return number{a % base, a / base}.trimmed()
+	return Number{a % base, a / base}.trimmed()
 }
 
 // short is the value of a number of at most two limbs.
-func (n number) short() int64 { return n.limb(1)*base + n.limb(0) }
+func (n Number) short() int64 { return n.limb(1)*base + n.limb(0) }
 
 // row is a number on Euclid's way: x times the greater of two numbers and y times the lesser one (x or y is not above 0).
 // head is what it would be if both of them ended behind their first digits. x and y of a row that is sure are not above base.
@@ -41,7 +41,7 @@ type row struct{ head, x, y int64 }
 
 // sureSteps goes Euclid's way as far as the first digits of n and o, not above n, tell it for certain,
 // and answers the last two rows.
-func sureSteps(n number, o number) (high row, low row) {
+func sureSteps(n Number, o Number) (high row, low row) {
 	a, b := heads(n, o)
 	high, low = row{a, 1, 0}, row{b, 0, 1}
 	for low.head > 0 {
@@ -55,13 +55,13 @@ func sureSteps(n number, o number) (high row, low row) {
 }
 
 // heads is the first 18 digits of n, of at least three limbs, and what o has in the same places.
-func heads(n number, o number) (int64, int64) {
+func heads(n Number, o Number) (int64, int64) {
 	top := len(n) - 1
 	scale := int64(1)
 	for n[top]*scale < base/10 {
 		scale *= 10
 	}
-	head := func(m number) int64 {
+	head := func(m Number) int64 {
 		return (m.limb(top)*base+m.limb(top-1))*scale + m.limb(top-2)/(base/scale)
 	}
 	return head(n), head(o)
@@ -79,8 +79,8 @@ func (r row) surelyBelow(s row) bool {
 }
 
 // of is the row's number. If it falls below 0 on the way, it turns round, and back again.
-func (r row) of(n number, o number) number {
-	sum := make(number, len(n))
+func (r row) of(n Number, o Number) Number {
+	sum := make(Number, len(n))
 	sum.put(n, r.x)
 	sum.put(o, r.y)
 	return sum.trimmed()

@@ -1,4 +1,6 @@
-package nat
+// Package long: numbers of any length, and fractions of them. Layers whose numbers outgrow what chapter 2 lets in reckon with
+// these; nothing is asked here of what comes in.
+package long
 
 import (
 	"cmp"
@@ -6,19 +8,22 @@ import (
 	"strings"
 )
 
-// number is a number of any length: nine digits in each limb, the lowest limb first, the highest not 0.
+// Number is a number of any length: nine digits in each limb, the lowest limb first, the highest not 0.
 // Ten is at the root of the base, so that texts are read and written in one go.
 // A signed limb can hold the product of two limbs, negative too, and what is carried.
-type number []int64
+type Number []int64
 
 const (
 	base       = 1_000_000_000
 	limbDigits = 9
 )
 
-// numberOf is the number that digits are.
-func numberOf(digits string) number {
-	n := make(number, 0, len(digits)/limbDigits+1)
+// Small is the number that n, not below 0 and below the base, is.
+func Small(n int) Number { return Number{int64(n)}.trimmed() }
+
+// Of is the number that digits are.
+func Of(digits string) Number {
+	n := make(Number, 0, len(digits)/limbDigits+1)
 	for end := len(digits); end > 0; end -= limbDigits {
 		limb := int64(0)
 		for i := max(0, end-limbDigits); i < end; i++ {
@@ -29,12 +34,12 @@ func numberOf(digits string) number {
 	return n.trimmed()
 }
 
-// tenTo is 1 with so many zeros behind it.
-func tenTo(zeros int) number { return numberOf("1" + strings.Repeat("0", zeros)) }
+// TenTo is 1 with so many zeros behind it.
+func TenTo(zeros int) Number { return Of("1" + strings.Repeat("0", zeros)) }
 
-// text is the number's digits.
-func (n number) text() string {
-	if n.isZero() {
+// Text is the number's digits.
+func (n Number) Text() string {
+	if n.IsZero() {
 		return "0"
 	}
 	digits := make([]byte, limbDigits*len(n))
@@ -50,27 +55,27 @@ func (n number) text() string {
 }
 
 // trimmed is the number without zeros ahead of it.
-func (n number) trimmed() number {
+func (n Number) trimmed() Number {
 	for len(n) > 0 && n[len(n)-1] == 0 {
 		n = n[:len(n)-1]
 	}
 	return n
 }
 
-func (n number) isZero() bool { return len(n) == 0 }
+func (n Number) IsZero() bool { return len(n) == 0 }
 
-func (n number) isOne() bool { return len(n) == 1 && n[0] == 1 }
+func (n Number) IsOne() bool { return len(n) == 1 && n[0] == 1 }
 
 // limb is one of the limbs; beyond the highest all are 0.
-func (n number) limb(i int) int64 {
+func (n Number) limb(i int) int64 {
 	if i < len(n) {
 		return n[i]
 	}
 	return 0
 }
 
-// compare is -1, 0 or 1, as n is below o, o itself, or above it.
-func (n number) compare(o number) int {
+// Compare is -1, 0 or 1, as n is below o, o itself, or above it.
+func (n Number) Compare(o Number) int {
 	if len(n) != len(o) {
 		return cmp.Compare(len(n), len(o))
 	}
@@ -84,7 +89,7 @@ func (n number) compare(o number) int {
 
 // put adds o to n itself, so many times, from -base to base, as far as n has limbs.
 // It answers what is carried out of them: it is below 0, if n fell below 0 and turned round.
-func (n number) put(o number, times int64) int64 {
+func (n Number) put(o Number, times int64) int64 {
 	carry := int64(0)
 	for i := range n {
 		sum := n[i] + times*o.limb(i) + carry
@@ -97,24 +102,24 @@ func (n number) put(o number, times int64) int64 {
 	return carry
 }
 
-// plus is the sum.
-func (n number) plus(o number) number {
-	sum := make(number, max(len(n), len(o))+1)
+// Plus is the sum.
+func (n Number) Plus(o Number) Number {
+	sum := make(Number, max(len(n), len(o))+1)
 	copy(sum, n)
 	sum.put(o, 1)
 	return sum.trimmed()
 }
 
-// minus is the difference, of an o that is not above n.
-func (n number) minus(o number) number {
+// Minus is the difference, of an o that is not above n.
+func (n Number) Minus(o Number) Number {
 	left := slices.Clone(n)
 	left.put(o, -1)
 	return left.trimmed()
 }
 
-// times is the product.
-func (n number) times(o number) number {
-	product := make(number, len(n)+len(o))
+// Times is the product.
+func (n Number) Times(o Number) Number {
+	product := make(Number, len(n)+len(o))
 	for i, limb := range o {
 		product[i:i+len(n)+1].put(n, limb)
 	}
