@@ -58,3 +58,20 @@ func (n Number) scaled(by int64) Number {
 	product.put(n, by)
 	return product
 }
+
+// Without is n, divided by a d above 1 as often as that leaves no rest. It tries d, then its square, the square of that, and so
+// on, as long as they divide what is left; on the way back each of them can divide it but once more.
+func (n Number) Without(d Number) Number {
+	if len(d) > len(n) {
+		return n
+	}
+	quotient, rest := n.Over(d)
+	if !rest.IsZero() {
+		return n
+	}
+	left := quotient.Without(d.Times(d))
+	if last, rest := left.Over(d); rest.IsZero() {
+		return last
+	}
+	return left
+}

@@ -97,6 +97,67 @@ func TestN3Longer(t *testing.T) {
 	told(t, "nothing", long.Lowest(long.Small(0), long.Of(digits(d, 5000))), new(big.Rat))
 }
 
+func TestN2Without(t *testing.T) {
+	d := dice()
+	for range 400 {
+		by := big.NewInt(int64(2 + d.IntN(12)))
+		if d.IntN(2) == 0 {
+			by = number(digits(d, 1+d.IntN(60)))
+			by.Add(by, big.NewInt(1))
+		}
+		n := number(digits(d, 1+d.IntN(300)))
+		n.Mul(n, new(big.Int).Exp(by, big.NewInt(int64(d.IntN(70))), nil))
+		before, divisor := long.Of(n.String()), long.Of(by.String())
+		got := before.Without(divisor)
+		want := new(big.Int).Set(n)
+		for rest := new(big.Int); rest.Mod(want, by).Sign() == 0; {
+			want.Quo(want, by)
+		}
+		same(t, "Without", got, want)
+		same(t, "what was divided", before, n)
+		same(t, "what it was divided by", divisor, by)
+	}
+	same(t, "nothing", long.Small(0).Without(long.Small(7)), new(big.Int))
+}
+
+func TestN1Read(t *testing.T) {
+	nines := strings.Repeat("9", 9000)
+	for _, text := range []string{"0", "1", "10", "999999999", "1000000000", nines} {
+		if !long.IsNumber(text) {
+			t.Errorf("%.20s is no number", text)
+		}
+	}
+	for _, text := range []string{"", "00", "01", "-1", "+1", " 1", "1 ", "1.0", "a", "1\x00", "0" + nines, nines + ":", "/" + nines} {
+		if long.IsNumber(text) {
+			t.Errorf("%.20q is a number", text)
+		}
+		for _, x := range []api.Frac{{Num: text, Den: "1"}, {Num: "1", Den: text}} {
+			if _, ok := long.Terms(x); ok {
+				t.Errorf("%.20q is a term", text)
+			}
+			if _, ok := long.Read(x); ok {
+				t.Errorf("%.20q is read", text)
+			}
+		}
+	}
+	for _, x := range []struct {
+		num, den    string
+		terms, read bool
+	}{
+		{"0", "1", true, true}, {"1", "1", true, true}, {"6", "4", true, false}, {"0", "2", true, false}, {"1", "0", false, false}, {"0", "0", false, false},
+		{nines, "1", true, true}, {nines, "3", true, false}, {nines, "1" + strings.Repeat("0", 9000), true, true}, {nines, nines, true, false},
+	} {
+		got, ok := long.Terms(api.Frac{Num: x.num, Den: x.den})
+		if ok != x.terms || ok && (got.Num.Text() != x.num || got.Den.Text() != x.den) {
+			t.Errorf("%.10s / %.10s: the terms are %t", x.num, x.den, ok)
+		}
+		got, ok = long.Read(api.Frac{Num: x.num, Den: x.den})
+		if ok != x.read || ok && (got.Num.Text() != x.num || got.Den.Text() != x.den) {
+			t.Errorf("%.10s / %.10s: it is read: %t", x.num, x.den, ok)
+		}
+	}
+}
+
 func rat(f long.Fraction) *big.Rat {
 	return new(big.Rat).SetFrac(number(f.Num.Text()), number(f.Den.Text()))
 }

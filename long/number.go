@@ -1,5 +1,5 @@
 // Package long: numbers of any length, and fractions of them. Layers whose numbers outgrow what chapter 2 lets in reckon with
-// these; nothing is asked here of what comes in.
+// these; but where texts are read, nothing is asked here of what comes in.
 package long
 
 import (

@@ -33,8 +33,8 @@ func readFraction(x api.Frac) (long.Fraction, api.Errno) {
 	if e := wrong(x.Num, x.Den); e != api.OK {
 		return long.Fraction{}, e
 	}
-	f := long.Fraction{Num: long.Of(x.Num), Den: long.Of(x.Den)}
-	if f.Den.IsZero() || !f.Num.Gcd(f.Den).IsOne() {
+	f, ok := long.Read(x)
+	if !ok {
 		return long.Fraction{}, api.ErrForm
 	}
 	return f, api.OK
@@ -43,7 +43,7 @@ func readFraction(x api.Frac) (long.Fraction, api.Errno) {
 // wrong tells what is wrong with texts as numbers: how all of them are written, ahead of how long they are.
 func wrong(texts ...string) api.Errno {
 	for _, text := range texts {
-		if !isNumber(text) {
+		if !long.IsNumber(text) {
 			return api.ErrForm
 		}
 	}
@@ -53,14 +53,4 @@ func wrong(texts ...string) api.Errno {
 		}
 	}
 	return api.OK
-}
-
-// isNumber tells whether a text is written as a number is.
-func isNumber(text string) bool {
-	for i := range len(text) {
-		if text[i] < '0' || text[i] > '9' {
-			return false
-		}
-	}
-	return text == "0" || text != "" && text[0] != '0'
 }
