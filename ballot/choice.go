@@ -1,13 +1,13 @@
 package ballot
 
-import "hustings/api"
-
-// ranks tells whether a contest is one in which options are ranked.
-func ranks(c api.Contest) bool { return c.Rule == api.RuleTransfer || c.Rule == api.RulePairs }
+import (
+	"hustings/api"
+	"hustings/kit"
+)
 
 // top is the greatest number that an option can have.
 func top(c api.Contest) int {
-	if ranks(c) {
+	if kit.Ranks(c) {
 		return len(c.Options)
 	}
 	return 1
@@ -15,7 +15,7 @@ func top(c api.Contest) int {
 
 // fits tells whether a choice with a number for each option fits.
 func fits(c api.Contest, choice []int) bool {
-	if ranks(c) {
+	if kit.Ranks(c) {
 		return ranked(choice)
 	}
 	marks := 0

@@ -5,7 +5,6 @@ import (
 	"math/bits"
 
 	"hustings/api"
-	"hustings/fold"
 	"hustings/kit"
 )
 
@@ -40,15 +39,11 @@ func greatest(at, hi int) int {
 // digest is that of a block with these entries.
 func digest(entries []string) string {
 	if len(entries) == 1 {
-		return digestOne(entries[0])
+		return kit.EntryDigest(entries[0])
 	}
 	half := len(entries) / 2
-	return digestBoth(digest(entries[:half]), digest(entries[half:]))
+	return kit.BlockDigest(digest(entries[:half]), digest(entries[half:]))
 }
-
-func digestOne(entry string) string { return fold.Tag("entry", []string{entry}) }
-
-func digestBoth(first, second string) string { return fold.Tag("block", []string{first, second}) }
 
 // part is a block of which the digest is known, not the entries.
 type part struct {
@@ -93,7 +88,7 @@ func (p part) halfWith(next part) bool {
 }
 
 func (p part) with(next part) part {
-	return part{api.Span{Lo: p.Lo, Hi: next.Hi}, digestBoth(p.digest, next.digest)}
+	return part{api.Span{Lo: p.Lo, Hi: next.Hi}, kit.BlockDigest(p.digest, next.digest)}
 }
 
 // size is how many entries all parts together are.
@@ -106,9 +101,9 @@ func (p parts) size() int {
 
 // head is that of these entries.
 func (p parts) head() string {
-	said := []string{kit.Four(p.size())}
+	var digests []string
 	for _, b := range p {
-		said = append(said, b.digest)
+		digests = append(digests, b.digest)
 	}
-	return fold.Tag("head", said)
+	return kit.Head(p.size(), digests)
 }

@@ -4,6 +4,7 @@ import (
 	"math/bits"
 
 	"hustings/api"
+	"hustings/kit"
 )
 
 // list is entries, with the digests of all blocks that are full: so heads and covers need no entry again.
@@ -15,7 +16,7 @@ type list struct {
 // grow adds an entry, and the blocks that end with it.
 func (l *list) grow(entry string) {
 	l.entries = append(l.entries, entry)
-	d := digestOne(entry)
+	d := kit.EntryDigest(entry)
 	for k := 0; ; k++ {
 		if k == len(l.digests) {
 			l.digests = append(l.digests, nil)
@@ -25,7 +26,7 @@ func (l *list) grow(entry string) {
 		if len(row)%2 != 0 {
 			return
 		}
-		d = digestBoth(row[len(row)-2], d)
+		d = kit.BlockDigest(row[len(row)-2], d)
 	}
 }
 

@@ -1,7 +1,9 @@
-// Package kit: what several chapters speak of and no layer's face has: numbers as four bytes, words, what comes by chance.
+// Package kit: what several chapters speak of and no layer's face has: numbers as four bytes, words, what comes by chance,
+// digests of entries, contests with ranks.
 package kit
 
 import (
+	"hustings/api"
 	"hustings/fold"
 	"hustings/group"
 )
@@ -36,3 +38,17 @@ func Chance(kind int, seed, label string, i int) string {
 	n, _ := group.Reduce(kind, b)
 	return n
 }
+
+// EntryDigest is that of a block of one entry (chapter 7).
+func EntryDigest(entry string) string { return fold.Tag("entry", []string{entry}) }
+
+// BlockDigest is that of a block whose halves have these digests.
+func BlockDigest(first, second string) string { return fold.Tag("block", []string{first, second}) }
+
+// Head is that of so many entries, the cover of which has these digests.
+func Head(size int, cover []string) string {
+	return fold.Tag("head", append([]string{Four(size)}, cover...))
+}
+
+// Ranks tells whether a contest is one in which options are ranked (chapter 9).
+func Ranks(c api.Contest) bool { return c.Rule == api.RuleTransfer || c.Rule == api.RulePairs }

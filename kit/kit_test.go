@@ -59,3 +59,24 @@ func TestH2Chance(t *testing.T) {
 		}
 	}
 }
+
+func TestB1Digests(t *testing.T) {
+	a, b := kit.EntryDigest("a"), kit.EntryDigest("b")
+	if a != fold.Tag("entry", []string{"a"}) || kit.BlockDigest(a, b) != fold.Tag("block", []string{a, b}) {
+		t.Error("a digest is another one")
+	}
+	cover := []string{kit.BlockDigest(a, b), a}
+	if kit.Head(3, cover) != fold.Tag("head", []string{"\x00\x00\x00\x03", cover[0], cover[1]}) || kit.Head(0, nil) != fold.Tag("head", []string{"\x00\x00\x00\x00"}) {
+		t.Error("a head is another one")
+	}
+}
+
+func TestC2Ranks(t *testing.T) {
+	for rule, want := range map[int]bool{
+		api.RulePlural: false, api.RuleApproval: false, api.RuleTransfer: true, api.RulePairs: true, 0: false, 5: false, -1: false,
+	} {
+		if kit.Ranks(api.Contest{Rule: rule}) != want {
+			t.Errorf("ranks of rule %d: %t comes", rule, !want)
+		}
+	}
+}

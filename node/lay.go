@@ -26,10 +26,19 @@ func (l *Layer) laid(n api.Node) api.Node {
 func (l *Layer) Text(s string) api.Node { return l.laid(api.Node{Leaf: true, Text: s}) }
 
 // Number is a leaf with a number; it throws ErrRange, if that has no Number.
-func (l *Layer) Number(n int) api.Node {
+func (l *Layer) Number(n int) api.Node { return l.Text(numberText(n)) }
+
+// Ask lays nothing; it throws ErrRange, if one of these has no Number: so that is told ahead of their being too many.
+func (l *Layer) Ask(numbers []int) {
+	for _, n := range numbers {
+		numberText(n)
+	}
+}
+
+func numberText(n int) string {
 	s, e := wire.Number(n)
 	throw(e)
-	return l.Text(s)
+	return s
 }
 
 // Truth is a leaf with 1 for what is true, with 0 for what is false.

@@ -121,3 +121,40 @@ func TestE1OtherPanics(t *testing.T) {
 		}
 	}
 }
+
+// What is asked for is not laid; that it has no Number is told ahead of what comes behind it.
+func TestZ1Ask(t *testing.T) {
+	for _, c := range []struct {
+		numbers []int
+		text    string
+		want    string
+		e       api.Errno
+	}{
+		{nil, "a", "(1:a)", api.OK},
+		{[]int{0, 1 << 40}, "a", "(1:a)", api.OK},
+		{[]int{0, -1}, "a", "", api.ErrRange},
+		{[]int{1<<40 + 1, 0}, strings.Repeat("x", api.MaxWire), "", api.ErrRange},
+		{make([]int, api.MaxWire), "a", "(1:a)", api.OK},
+	} {
+		got, e := node.Write(func(l *node.Layer) api.Node {
+			l.Ask(c.numbers)
+			return l.List(l.Text(c.text))
+		})
+		if got != c.want || e != c.e {
+			t.Errorf("%q comes, error %d, not %q, error %d", got, e, c.want, c.e)
+		}
+	}
+}
+
+func TestZ2Refuse(t *testing.T) {
+	got, e := node.Read("(1:a)", func(t *node.Taker) string {
+		text := t.Text()
+		if text == "a" {
+			t.Refuse()
+		}
+		return text
+	})
+	if got != "" || e != api.ErrForm {
+		t.Errorf("%q comes, error %d", got, e)
+	}
+}

@@ -34,6 +34,9 @@ func (t *Taker) Text() string {
 // Leaf takes a leaf that must have this text.
 func (t *Taker) Leaf(text string) { must(t.Text() == text) }
 
+// Refuse throws ErrForm at what was taken.
+func (t *Taker) Refuse() { throw(api.ErrForm) }
+
 // Number takes a leaf with a number.
 func (t *Taker) Number() int {
 	n, e := wire.ReadNumber(t.Text())
