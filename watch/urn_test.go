@@ -49,6 +49,10 @@ func castFaults(s *scene) []castFault {
 		{"a long code ahead", 4, api.ErrProof, false, func(c *api.Cast) { c.Prev += "x" }},
 		{"another code", 4, api.ErrProof, false, func(c *api.Cast) { c.Code = code("another") }},
 		{"no code", 4, api.ErrProof, false, func(c *api.Cast) { c.Code = "" }},
+		{"no codes, and signed so", 4, api.ErrProof, false, func(c *api.Cast) {
+			c.Prev, c.Code = "", ""
+			*c = s.signed(*c, voterSecret(0)).cast
+		}},
 		{"no signature", 4, api.ErrProof, false, func(c *api.Cast) { c.Sign = api.Proof{} }},
 		{"another answer", 4, api.ErrProof, false, func(c *api.Cast) { c.Sign.Answers[0] = one }},
 		{"two answers", 4, api.ErrProof, false, func(c *api.Cast) { c.Sign.Answers = append(c.Sign.Answers, one) }},

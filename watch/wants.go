@@ -87,8 +87,8 @@ func (w *Watcher) openOn() {
 	}
 }
 
-// end: no entry comes any more, and nothing is to be checked.
-func (w *Watcher) end() {}
+// end: nothing comes any more that is hidden with the key.
+func (w *Watcher) end() { w.key = "" }
 
 // unwanted tells whether there is no such cipher.
 func (w *Watcher) unwanted(i int) bool { return i < 0 || i >= len(w.wants.list) }
